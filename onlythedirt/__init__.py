@@ -1,0 +1,1 @@
+"""Onlythedirt: films of layers, where only what an edit changes is worked out anew."""

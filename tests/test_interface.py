@@ -28,6 +28,26 @@ FUNCTIONS = {
         "turned": "(picture)",
         "part_of": "(picture, left, top, width, height)",
     },
+    "paints": {
+        "is_name": "(value)",
+        "check_paint": "(paint)",
+        "paint_at": "(paint, x, y)",
+        "is_full": "(paint, width, height)",
+    },
+    "blends": {
+        "check_what": "(what)",
+        "blended": "(mode, value, paint, cover)",
+    },
+    "moves": {
+        "check_moves": "(moves)",
+        "offset_at": "(moves, frame)",
+    },
+    "clips": {
+        "check_clips": "(clips, adjusts)",
+        "clip_at": "(clips, frame)",
+        "level_at": "(clip, frame)",
+        "lane": "(clips, frame)",
+    },
 }
 CLASSES = {
     "errors": {

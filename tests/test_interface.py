@@ -48,6 +48,29 @@ FUNCTIONS = {
         "level_at": "(clip, frame)",
         "lane": "(clips, frame)",
     },
+    "timeline": {
+        "cut_at": "(clips, frame)",
+        "join_at": "(clips, place)",
+        "with_span": "(clips, place, start, length)",
+        "moved_by": "(clips, place, frames)",
+        "lifted": "(clips, first, last)",
+        "placed": "(clips, clip)",
+        "rippled_out": "(clips, first, last)",
+        "rippled_in": "(clips, frame, count)",
+    },
+    "film": {
+        "same_film": "(first, second)",
+        "extent_of": "(film, layer, frame)",
+        "items_at": "(film, frame)",
+    },
+    "plain": {
+        "shown": "(film, frame, x, y)",
+        "picture_of": "(film, frame)",
+    },
+    "dirt": {
+        "stack_at": "(film, frame, x, y)",
+        "dirt_of": "(first, second, frame)",
+    },
 }
 CLASSES = {
     "errors": {
@@ -71,6 +94,14 @@ CLASSES = {
         "BadPlace": "(place=None)",
         "BadRectangle": "(place=None)",
     },
+    "film": {
+        "Film": "(width, height, frames, background, layers)",
+    },
+}
+METHODS = {
+}
+PROPERTIES = {
+    ("film", "Film"): ("width", "height", "frames", "background", "layers"),
 }
 
 
@@ -90,6 +121,22 @@ class InterfaceTest(unittest.TestCase):
 
     def test_classes(self):
         self.check_all(CLASSES, inspect.isclass)
+
+    def test_methods_are_defined_in_the_class_itself(self):
+        for (file, kind), names in METHODS.items():
+            own = vars(getattr(importlib.import_module("onlythedirt." + file), kind))
+            for name, arguments in names.items():
+                with self.subTest(kind=kind, name=name):
+                    self.assertTrue(inspect.isfunction(own[name]))
+                    self.assertEqual(str(inspect.signature(own[name])), arguments)
+
+    def test_properties_are_defined_in_the_class_itself(self):
+        for (file, kind), names in PROPERTIES.items():
+            own = vars(getattr(importlib.import_module("onlythedirt." + file), kind))
+            for name in names:
+                with self.subTest(kind=kind, name=name):
+                    self.assertIsInstance(own[name], property)
+                    self.assertIsNone(own[name].fset)
 
 
 if __name__ == "__main__":

@@ -71,6 +71,14 @@ FUNCTIONS = {
         "stack_at": "(film, frame, x, y)",
         "dirt_of": "(first, second, frame)",
     },
+    "edits": {
+        "done": "(film, edit)",
+        "inverse": "(film, edit)",
+    },
+    "written": {
+        "format_film": "(film)",
+        "parse_film": "(text)",
+    },
 }
 CLASSES = {
     "errors": {
@@ -97,11 +105,36 @@ CLASSES = {
     "film": {
         "Film": "(width, height, frames, background, layers)",
     },
+    "history": {
+        "History": "(film)",
+    },
+    "viewer": {
+        "Viewer": "(film)",
+    },
 }
 METHODS = {
+    ("history", "History"): {
+        "counts": "(self)",
+        "edit": "(self, edit)",
+        "undo": "(self)",
+        "redo": "(self)",
+    },
+    ("viewer", "Viewer"): {
+        "film": "(self)",
+        "show": "(self, frame)",
+        "dirt": "(self, frame)",
+        "kept": "(self)",
+        "worked": "(self)",
+        "forget": "(self)",
+        "counts": "(self)",
+        "edit": "(self, edit)",
+        "undo": "(self)",
+        "redo": "(self)",
+    },
 }
 PROPERTIES = {
     ("film", "Film"): ("width", "height", "frames", "background", "layers"),
+    ("history", "History"): ("present",),
 }
 
 

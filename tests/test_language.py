@@ -76,6 +76,72 @@ class LanguageTest(unittest.TestCase):
                     if isinstance(node.value, str):
                         self.assertNotIn("%", node.value, name)
 
+    def test_each_name_is_bound_once_at_module_level(self):
+        for name, tree in self.trees():
+            names = self.imported(tree)
+            for node in tree.body:
+                if isinstance(node, (ast.FunctionDef, ast.ClassDef)):
+                    names.append(node.name)
+                if isinstance(node, ast.Assign):
+                    names.extend(target.id for target in node.targets)
+            self.assertEqual(len(names), len(set(names)), name)
+
+    def test_no_other_name_is_that_of_an_import_or_a_class(self):
+        for name, tree in self.trees():
+            taken = self.imported(tree) + [node.name for node in tree.body if isinstance(node, ast.ClassDef)]
+            for node in ast.walk(tree):
+                if isinstance(node, ast.arg):
+                    self.assertNotIn(node.arg, taken, (name, node.lineno))
+                if isinstance(node, ast.Name) and isinstance(node.ctx, ast.Store):
+                    self.assertNotIn(node.id, taken, (name, node.lineno))
+                if isinstance(node, (ast.MatchAs, ast.MatchStar)):
+                    self.assertNotIn(node.name, taken, (name, node.lineno))
+
+    def imported(self, tree):
+        return [alias.name for node in tree.body if isinstance(node, ast.ImportFrom) for alias in node.names]
+
+    def test_imports_name_the_file_that_defines_the_name(self):
+        defined = {}
+        for name, tree in self.trees():
+            for node in tree.body:
+                if isinstance(node, (ast.FunctionDef, ast.ClassDef)):
+                    defined[node.name, name] = True
+                if isinstance(node, ast.Assign):
+                    defined[node.targets[0].id, name] = True
+        for name, tree in self.trees():
+            for node in tree.body:
+                if isinstance(node, ast.ImportFrom) and node.module.startswith("onlythedirt"):
+                    for alias in node.names:
+                        self.assertIn((alias.name, node.module.partition(".")[2] + ".py"), defined, name)
+
+    def test_no_two_files_import_from_each_other(self):
+        needs = {
+            name[:-3]: {node.module.partition(".")[2] for node in tree.body if isinstance(node, ast.ImportFrom)}
+            for name, tree in self.trees()
+        }
+        while needs:
+            free = [name for name, others in needs.items() if not others & set(needs)]
+            self.assertNotEqual(free, [], needs)
+            needs = {name: others for name, others in needs.items() if name not in free}
+
+    def test_alternatives_in_patterns_capture_nothing(self):
+        for name, tree in self.trees():
+            for node in ast.walk(tree):
+                if isinstance(node, ast.MatchOr):
+                    for inner in ast.walk(node):
+                        self.assertNotIsInstance(inner, (ast.MatchAs, ast.MatchStar), (name, node.lineno))
+
+    def test_captured_names_are_bound_by_their_cases_alone(self):
+        for name, tree in self.trees():
+            for function in ast.walk(tree):
+                if isinstance(function, ast.FunctionDef):
+                    nodes = list(ast.walk(function))
+                    captured = {node.name for node in nodes if isinstance(node, (ast.MatchAs, ast.MatchStar))}
+                    arguments = {node.arg for node in nodes if isinstance(node, ast.arg)}
+                    names = [node for node in nodes if isinstance(node, ast.Name)]
+                    assigned = {node.id for node in names if isinstance(node.ctx, ast.Store)}
+                    self.assertEqual(captured & (arguments | assigned), set(), (name, function.name))
+
     def test_builtins(self):
         for name, tree in self.trees():
             for node in ast.walk(tree):
